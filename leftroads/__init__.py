@@ -1,0 +1,1 @@
+"""Leftroads: roads of left and right turns to numbers."""

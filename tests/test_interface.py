@@ -1,0 +1,37 @@
+"""The interface: names, arguments, and the files in which they are defined."""
+
+import importlib
+import inspect
+import unittest
+
+FUNCTIONS = {
+    "roads": {
+        "number_of": ["road"], "road_of": ["fraction"], "compare": ["one", "other"],
+        "course": ["ahead", "ring"], "compare_courses": ["one", "other"],
+        "turns_of": ["told", "number"], "square_of": ["told"]},
+    "maps": {
+        "least_map": ["a", "b", "c", "d"], "size": ["one"], "sent": ["one", "fraction"],
+        "behind": ["one", "other"], "turned": ["one"], "before": ["one", "fraction"],
+        "machine_of": ["one"], "standings": ["one"], "course_sent": ["one", "told"], "fixed": ["one"]},
+}
+
+
+class Interface(unittest.TestCase):
+
+    def test_functions_stand_in_their_files_with_their_arguments(self):
+        for name, functions in FUNCTIONS.items():
+            module = importlib.import_module("leftroads." + name)
+            for called, arguments in functions.items():
+                with self.subTest(module=name, function=called):
+                    function = getattr(module, called)
+                    self.assertTrue(inspect.isfunction(function))
+                    self.assertEqual(function.__module__, "leftroads." + name)
+                    parameters = inspect.signature(function).parameters.values()
+                    self.assertEqual([each.name for each in parameters], arguments)
+                    for each in parameters:
+                        self.assertIs(each.kind, inspect.Parameter.POSITIONAL_OR_KEYWORD)
+                        self.assertIs(each.default, inspect.Parameter.empty)
+
+
+if __name__ == "__main__":
+    unittest.main()
