@@ -25,6 +25,46 @@ MAPS = """
 [('R', [(('L', 0), ('R', 0), '')]), ('', 'RRRLLLLR'), [('', 'RL')], [(1, 1)], [], None]
 """
 
+SQUARES = """
+>>> from leftroads.squares import fixing, other_root, rings, roots_of, spread
+>>> [roots_of((1, -1, -1)), roots_of((1, -3, 1)), roots_of((2, -3, 1)), other_root(("R", "RL")), other_root(("", "RL")), spread(("", "RL"))]
+[[('', 'RL')], [('L', 'LR'), ('R', 'RL')], [(1, 2), (1, 1)], ('L', 'LR'), None, 5]
+>>> [rings(5), rings(8), rings(12), rings(7), fixing(("", "RL"), 2)]
+[['LR'], ['LLRR'], ['LLR', 'LRR'], [], [(1, 0, 0, 1), (1, 1, 1, 0), (2, 1, 1, 1)]]
+"""
+
+MACHINES = """
+>>> from leftroads.machines import cut_in, is_least, joined, least, run, run_course
+>>> from leftroads.maps import machine_of
+>>> double, half = machine_of((2, 0, 0, 1)), machine_of((1, 0, 0, 2))
+>>> [run(double, "RL"), run_course(double, ("", "R")), joined(double, half), least(("", [(("L", 0), ("R", 1), "L"), (("L", 1), ("R", 0), "L")])), is_least(double)]
+['RR', ('', 'R'), ('', [(('L', 0), ('R', 0), '')]), ('', [(('L', 0), ('R', 0), 'L')]), True]
+>>> [run(cut_in(double, "L", half), "LR"), run(cut_in(double, "L", half), "R")]
+['LL', 'RRR']
+"""
+
+COMPARE = """
+>>> from leftroads.compare import agree, alike, falls, first_unlike, map_of, same_written
+>>> from leftroads.maps import machine_of
+>>> double, half, swap = machine_of((2, 0, 0, 1)), machine_of((1, 0, 0, 2)), machine_of((0, 1, 1, 0))
+>>> plain, ended = ("", [(("L", 0), ("R", 0), "")]), ("", [(("L", 0), ("R", 0), "L")])
+>>> [alike(double, half), first_unlike(double, half), first_unlike(plain, ended), agree(plain, ended), map_of(half), map_of(ended), falls(double), same_written(double), same_written(ended)]
+[False, '', '', True, (1, 0, 0, 2), None, None, None, None]
+>>> one, other = same_written(("", [(("", 0), ("R", 0), "")]))
+>>> [one != other, falls(swap) is None, falls(ended) is None]
+[True, False, False]
+"""
+
+WAITS = """
+>>> from leftroads.maps import machine_of
+>>> from leftroads.waits import ahead, never, number_below, number_of_roads, rest_of_roads, surely, wait, writes
+>>> double, plain = machine_of((2, 0, 0, 1)), ("", [(("L", 0), ("R", 0), "")])
+>>> [surely(double, "RL"), surely(double, "L"), wait(double), wait(plain), ahead(plain), ahead(double), writes(double, "LL"), writes(plain, "LR")]
+['RR', '', 1, 0, (0, 0), (None, None), 'LR', 'LR']
+>>> [never(plain, 2), never(("", [(("L", 0), ("L", 0), "R")]), 2), number_of_roads(plain, 5, "LR"), number_of_roads(double, 2, "R"), rest_of_roads(plain, 10 ** 30, "", 7), number_below(plain, 2, (1, 1)), number_below(double, 2, (1, 1))]
+[[], ['RL', 'RR'], 8, 3, 2, 2, 1]
+"""
+
 
 class Examples(unittest.TestCase):
 
@@ -39,8 +79,20 @@ class Examples(unittest.TestCase):
     def test_maps(self):
         self.check("maps", MAPS, 5)
 
+    def test_squares(self):
+        self.check("squares", SQUARES, 3)
+
+    def test_machines(self):
+        self.check("machines", MACHINES, 5)
+
+    def test_compare(self):
+        self.check("compare", COMPARE, 7)
+
+    def test_waits(self):
+        self.check("waits", WAITS, 5)
+
     def test_readme(self):
-        self.check("README.md", README.read_text(), 12)
+        self.check("README.md", README.read_text(), 33)
 
 
 if __name__ == "__main__":

@@ -13,6 +13,20 @@ FUNCTIONS = {
         "least_map": ["a", "b", "c", "d"], "size": ["one"], "sent": ["one", "fraction"],
         "behind": ["one", "other"], "turned": ["one"], "before": ["one", "fraction"],
         "machine_of": ["one"], "standings": ["one"], "course_sent": ["one", "told"], "fixed": ["one"]},
+    "squares": {
+        "roots_of": ["square"], "other_root": ["told"], "spread": ["told"], "rings": ["number"],
+        "fixing": ["told", "most"]},
+    "machines": {
+        "run": ["machine", "road"], "run_course": ["machine", "told"], "joined": ["one", "other"],
+        "least": ["machine"], "is_least": ["machine"], "cut_in": ["machine", "road", "other"]},
+    "compare": {
+        "alike": ["one", "other"], "first_unlike": ["one", "other"], "agree": ["one", "other"],
+        "map_of": ["machine"], "falls": ["machine"], "same_written": ["machine"]},
+    "waits": {
+        "surely": ["machine", "road"], "wait": ["machine"], "ahead": ["machine"], "writes": ["machine", "word"],
+        "never": ["machine", "length"], "number_of_roads": ["machine", "length", "word"],
+        "rest_of_roads": ["machine", "length", "word", "modulus"],
+        "number_below": ["machine", "length", "fraction"]},
 }
 
 

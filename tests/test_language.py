@@ -19,6 +19,10 @@ BUILTINS = set("""
     Exception ValueError TypeError KeyError IndexError LookupError ZeroDivisionError ArithmeticError OverflowError
     RuntimeError NotImplementedError AttributeError StopIteration NotImplemented
     """.split())
+KEYWORDS = {
+    ("sorted", "key"), ("sorted", "reverse"), ("min", "key"), ("min", "default"), ("max", "key"), ("max", "default"),
+    ("sum", "start"), ("enumerate", "start"), ("zip", "strict")}
+CHANGES = {"append", "clear", "extend", "insert", "pop", "remove", "reverse", "setdefault", "update", "sort"}
 BARRED = (ast.AsyncFunctionDef, ast.AsyncFor, ast.AsyncWith, ast.Await, ast.Import, ast.Div)
 
 
@@ -79,6 +83,64 @@ class Language(unittest.TestCase):
         for name, node in self.nodes(ast.Name):
             if node.id in known:
                 self.assertIn(node.id, BUILTINS, name)
+
+    def test_no_percent_sign_and_no_pattern_of_it_in_a_string(self):
+        for name, node in self.nodes(ast.Constant):
+            if isinstance(node.value, str):
+                self.assertNotIn(chr(37), node.value, name)
+                self.assertTrue(all(" " <= sign <= "~" or sign == "\n" for sign in node.value), name)
+
+    def test_stars_stand_before_names_alone(self):
+        for name, node in self.nodes(ast.Call):
+            starred = [each.value for each in node.args if isinstance(each, ast.Starred)]
+            for each in starred:
+                self.assertIsInstance(each, (ast.Name, ast.Attribute), name)
+                self.assertNotIn(getattr(node.func, "id", ""), LIBRARY["math"], name)
+
+    def test_keywords_of_builtins(self):
+        known = set(vars(builtins))
+        for name, node in self.nodes(ast.Call):
+            if getattr(node.func, "id", None) in known:
+                for each in node.keywords:
+                    self.assertIn((node.func.id, each.arg), KEYWORDS, name)
+
+    def test_local_names_are_no_imports_classes_or_builtins(self):
+        known = set(vars(builtins)) - {"_", "object", "id", "format"}
+        for path in self.files():
+            tree = ast.parse(path.read_text())
+            given = {each.name for node in ast.walk(tree) if isinstance(node, ast.ImportFrom) for each in node.names}
+            given |= {node.name for node in ast.walk(tree) if isinstance(node, ast.ClassDef)} | known
+            local = {node.id for node in ast.walk(tree) if isinstance(node, ast.Name)
+                     and isinstance(node.ctx, ast.Store)}
+            local |= {node.arg for node in ast.walk(tree) if isinstance(node, ast.arg)}
+            self.assertEqual(local & given, set(), path.name)
+
+    def test_every_import_names_the_file_that_defines_it_and_is_used(self):
+        for path in self.files():
+            tree = ast.parse(path.read_text())
+            used = {node.id for node in ast.walk(tree) if isinstance(node, ast.Name)}
+            for node in ast.walk(tree):
+                if isinstance(node, ast.ImportFrom):
+                    self.assertEqual([each.asname for each in node.names if each.asname], [], path.name)
+                    for each in node.names:
+                        self.assertIn(each.name, used, path.name)
+                        if node.module not in LIBRARY:
+                            source = ast.parse((PACKAGE / (node.module.split(".", 1)[1] + ".py")).read_text())
+                            self.assertIn(each.name, self.defined(source), (path.name, each.name))
+
+    def defined(self, tree):
+        names = {node.name for node in tree.body if isinstance(node, (ast.FunctionDef, ast.ClassDef))}
+        return names | {target.id for node in tree.body if isinstance(node, ast.Assign) for target in node.targets}
+
+    def test_loops_do_not_change_what_they_go_over(self):
+        for name, node in self.nodes(ast.For):
+            over = {each.id for each in ast.walk(node.iter) if isinstance(each, ast.Name)}
+            for each in ast.walk(node):
+                if isinstance(each, ast.Call) and isinstance(each.func, ast.Attribute):
+                    if each.func.attr in CHANGES and isinstance(each.func.value, ast.Name):
+                        self.assertNotIn(each.func.value.id, over, (name, node.lineno))
+                if isinstance(each, ast.Subscript) and isinstance(each.ctx, (ast.Store, ast.Del)):
+                    self.assertNotIn(getattr(each.value, "id", None), over, (name, node.lineno))
 
 
 if __name__ == "__main__":
