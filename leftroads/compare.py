@@ -34,7 +34,8 @@ def map_of(machine):
     """Return the map whose machine a machine is alike to, None if there is none."""
     check_machine(machine)
     # Only one map fits three numbers; it is that of the machine, or none is.
-    one = map_through([number_of(write_all(machine, road)) for road in ("L", "", "R")])
+    roads = ["L", "", "R"]
+    one = map_through([number_of(road) for road in roads], [number_of(write_all(machine, road)) for road in roads])
     if one is None or not does_map(machine, one):
         return None
     return one

@@ -6,21 +6,21 @@ from leftroads.matrices import matrix_of, times
 from leftroads.roads import number_of
 
 
-def map_through(numbers):
-    """Return the map that sends 1 / 2, 1 and 2 to three fractions, None if there is none."""
-    low, middle, high = numbers
-    low_share = crossed(middle, high)
-    high_share = crossed(low, middle)
-    # What 1 / 2 and 2 are sent to, each taken so often that both together are
-    # what 1 is sent to, tells what 0 and the endless number are sent to.
-    one = (
-        2 * high_share * high[0] - low_share * low[0], 2 * low_share * low[0] - high_share * high[0],
-        2 * high_share * high[1] - low_share * low[1], 2 * low_share * low[1] - high_share * high[1])
-    if max(one) <= 0:
-        a, b, c, d = one
-        one = (-a, -b, -c, -d)
-    a, b, c, d = one
-    if min(one) < 0 or a * d == b * c:
+def map_through(ahead, behind):
+    """Return the map that sends three unlike fractions ahead to three behind, None if there is none."""
+    one, other, third = ahead
+    one_behind, other_behind, third_behind = behind
+    # The third one is the two others, each so many times, put together; so it
+    # is behind, which tells how often the map takes what it sends both to.
+    one_share = crossed(third_behind, other_behind) * crossed(one, third)
+    other_share = crossed(one_behind, third_behind) * crossed(third, other)
+    a, b, c, d = times(
+        (one_share * one_behind[0], other_share * other_behind[0],
+         one_share * one_behind[1], other_share * other_behind[1]),
+        (other[1], -other[0], -one[1], one[0]))
+    if max(a, b, c, d) <= 0:
+        a, b, c, d = -a, -b, -c, -d
+    if min(a, b, c, d) < 0 or a * d == b * c:
         return None
     divisor = gcd(a, b, c, d)
     return (a // divisor, b // divisor, c // divisor, d // divisor)

@@ -175,3 +175,65 @@ def lower(one, other):
     """Whether one road tells less than another one."""
     (above, below), (other_above, other_below) = told(one), told(other)
     return above * other_below < other_above * below
+
+
+def places_by_length(machine, road, most):
+    """For each number of turns to the greatest one: how many roads stand at each place while a road is written.
+
+    A place is a state and how much is written; behind it stand the number of the
+    roads to it and the first one of them.
+    """
+    first, rows = machine
+    level = {(0, len(first)): (1, "")} if road.startswith(first) else {}
+    for _ in range(most + 1):
+        yield level
+        later = {}
+        for (state, done), (many, before) in level.items():
+            for turn, (word, follower) in zip("LR", rows[state][:2]):
+                if road.startswith(word, done):
+                    place = (follower, done + len(word))
+                    number, least = later.get(place, (0, before + turn))
+                    later[place] = (number + many, min(least, before + turn))
+        level = later
+
+
+def sources_of(machine, road):
+    """The first road for which a road is written, and how many there are, None and None, if there are endless many."""
+    places = len(machine[1]) * (len(road) + 1)
+    found, number = None, 0
+    for length, level in enumerate(places_by_length(machine, road, 2 * places)):
+        ended = [(many, before) for (state, done), (many, before) in level.items()
+                 if machine[1][state][2] == road[done:]]
+        if ended and found is None:
+            found = min(before for _, before in ended)
+        number += sum(many for many, _ in ended)
+        # A road with more turns than there are places comes round on its way, and may do so as often as it likes.
+        if ended and length >= places:
+            return found, None
+    return found, number
+
+
+def has_course_source(machine, told):
+    """Whether a machine can go on for ever to write a course."""
+    ahead, ring = told
+    enough = (len(machine[1]) + 1) * (len(ahead) + len(ring) + 4) * 5
+    text = ahead + ring * (enough // len(ring) + 5)
+    first, rows = machine
+    waiting = [(0, len(first))] if text.startswith(first) else []
+    seen = set(waiting)
+    while waiting:
+        state, done = waiting.pop()
+        if done >= enough:
+            return True
+        for word, follower in rows[state][:2]:
+            place = (follower, done + len(word))
+            if text.startswith(word, done) and place not in seen:
+                seen.add(place)
+                waiting.append(place)
+    return False
+
+
+def run_of_courses(machine, told, number=60):
+    """The first turns, of so many, that a machine writes for a course, or all if there are fewer."""
+    text, goes_on = written_without_end(machine, told, 2 * number)
+    return text[:number] if goes_on else text + "."

@@ -162,5 +162,14 @@ def turning_rings(most):
     return [ring for ring in all_roads(most) if "L" in ring and "R" in ring]
 
 
+def parts(value):
+    """A value and everything within it."""
+    found = [value]
+    if isinstance(value, (list, tuple)):
+        for each in value:
+            found.extend(parts(each))
+    return found
+
+
 def seeded(number):
     return Random(number)

@@ -65,6 +65,40 @@ WAITS = """
 [[], ['RL', 'RR'], 8, 3, 2, 2, 1]
 """
 
+SOURCES = """
+>>> from leftroads.compare import same_written
+>>> from leftroads.maps import machine_of
+>>> from leftroads.sources import course_source, first_source, misses, number_of_sources, undone
+>>> double, half, next_one = machine_of((2, 0, 0, 1)), machine_of((1, 0, 0, 2)), machine_of((1, 1, 0, 1))
+>>> [first_source(double, "RR"), number_of_sources(double, "RR"), first_source(next_one, "L"), number_of_sources(("", [(("", 0), ("R", 0), "")]), "R"), course_source(double, ("", "R")), misses(double), misses(next_one), undone(double) == half, undone(next_one)]
+['RL', 1, None, None, ('', 'R'), None, '', True, None]
+>>> held = ("", [(("", 1), ("", 2), ""), (("L", 1), ("RL", 3), "L"), (("L", 2), ("RR", 3), "R"), (("L", 3), ("R", 3), "")])
+>>> [misses(held), same_written(held), undone(held)]
+[None, None, None]
+"""
+
+RATES = """
+>>> from leftroads.maps import machine_of
+>>> from leftroads.rates import fastest, rate, rates, slowest
+>>> double, lost = machine_of((2, 0, 0, 1)), ("", [(("", 0), ("R", 0), "")])
+>>> [rate(double, ("", "R")), rate(double, ("", "RL")), rates(double), rate(lost, ("", "L")), rates(lost), rate(double, slowest(double)), rate(lost, fastest(lost))]
+[(2, 1), (4, 3), ((1, 2), (2, 1)), (0, 1), ((0, 1), (1, 1)), (1, 2), (1, 1)]
+"""
+
+GUESSES = """
+>>> from leftroads.guesses import fitting, parting, told_back
+>>> [fitting([((1, 1), (2, 1))], 2), told_back([((1, 1), (2, 1)), ((1, 2), (1, 1)), ((3, 1), (6, 1))]), parting([(2, 0, 0, 1), (1, 1, 0, 1)]), parting([(1, 0, 0, 1)])]
+[[(0, 2, 1, 0), (1, 1, 0, 1), (1, 1, 1, 0), (2, 0, 0, 1)], (2, 0, 0, 1), (1, 2), (1, 1)]
+"""
+
+TABLES = """
+>>> from leftroads.maps import machine_of
+>>> from leftroads.tables import machine_from, table_of
+>>> double, next_one = machine_of((2, 0, 0, 1)), machine_of((1, 1, 0, 1))
+>>> [table_of(double, 1), machine_from(["R", "", "RRR"], 1), machine_from(["", "L", "R"], 1), machine_from(["L", "LL", "RL"], 1), machine_from(table_of(next_one, 3), 2) == next_one]
+[['R', '', 'RRR'], None, ('', [(('L', 0), ('R', 0), '')]), ('', [(('L', 0), ('R', 0), 'L')]), True]
+"""
+
 
 class Examples(unittest.TestCase):
 
@@ -91,8 +125,20 @@ class Examples(unittest.TestCase):
     def test_waits(self):
         self.check("waits", WAITS, 5)
 
+    def test_sources(self):
+        self.check("sources", SOURCES, 7)
+
+    def test_rates(self):
+        self.check("rates", RATES, 4)
+
+    def test_guesses(self):
+        self.check("guesses", GUESSES, 2)
+
+    def test_tables(self):
+        self.check("tables", TABLES, 4)
+
     def test_readme(self):
-        self.check("README.md", README.read_text(), 33)
+        self.check("README.md", README.read_text(), 48)
 
 
 if __name__ == "__main__":

@@ -27,6 +27,13 @@ FUNCTIONS = {
         "never": ["machine", "length"], "number_of_roads": ["machine", "length", "word"],
         "rest_of_roads": ["machine", "length", "word", "modulus"],
         "number_below": ["machine", "length", "fraction"]},
+    "sources": {
+        "first_source": ["machine", "road"], "number_of_sources": ["machine", "road"],
+        "course_source": ["machine", "told"], "misses": ["machine"], "undone": ["machine"]},
+    "rates": {
+        "rate": ["machine", "told"], "rates": ["machine"], "slowest": ["machine"], "fastest": ["machine"]},
+    "guesses": {"fitting": ["seen", "most"], "told_back": ["seen"], "parting": ["maps"]},
+    "tables": {"table_of": ["machine", "length"], "machine_from": ["words", "most"]},
 }
 
 

@@ -6,6 +6,7 @@ from copy import deepcopy
 from leftroads import maps, roads
 from leftroads.maps import fixed, machine_of, standings
 from leftroads.roads import course, square_of, turns_of
+from tests.plain import parts
 
 MAPS = [(2, 0, 0, 1), (1, 0, 0, 2), (1, 1, 0, 1), (0, 1, 1, 0), (5, 3, 1, 3), (2, 1, 1, 1), (1, 2, 1, 0)]
 COURSES = [("", "RL"), ("L", "RLRL"), ("LLR", "RRLRRL")]
@@ -19,15 +20,6 @@ CALLS += [
 CALLS += [(function, [one, (3, 2)]) for one in MAPS for function in (maps.sent, maps.before)]
 CALLS += [(maps.behind, [one, other]) for one in MAPS for other in MAPS]
 CALLS += [(maps.course_sent, [one, told]) for one in MAPS for told in COURSES]
-
-
-def parts(value):
-    """A value and everything within it."""
-    found = [value]
-    if isinstance(value, (list, tuple)):
-        for each in value:
-            found.extend(parts(each))
-    return found
 
 
 class Untouched(unittest.TestCase):

@@ -7,9 +7,9 @@ from leftroads import compare, machines, squares, waits
 from leftroads.errors import InvalidMachine
 from leftroads.machines import cut_in, joined, least, run
 from leftroads.maps import machine_of
+from tests.kept import Kept
 from tests.made import some_machines
 from tests.plain import seeded
-from tests.test_untouched import parts
 
 HELD = ("", [(("", 1), ("", 2), ""), (("L", 1), ("RL", 3), "L"), (("L", 2), ("RR", 3), "R"), (("L", 3), ("R", 3), "")])
 MACHINES = [machine_of((2, 0, 0, 1)), machine_of((0, 3, 1, 0)), HELD, ("", [(("", 0), ("R", 0), "")])]
@@ -29,7 +29,7 @@ WITHOUT_MACHINES = [
 
 
 def all_calls():
-    """All questions, with machines that are the callers' own."""
+    """All questions, with machines that are the caller's own."""
     calls = [(function, list(passed)) for function, *passed in WITHOUT_MACHINES]
     for machine in MACHINES:
         calls += [(function, [deepcopy(machine), *passed]) for function, *passed in ONE_MACHINE]
@@ -39,13 +39,12 @@ def all_calls():
     return calls
 
 
-class Untouched(unittest.TestCase):
+class Untouched(Kept, unittest.TestCase):
 
-    def test_what_is_passed_stays_as_it_is(self):
-        for function, passed in all_calls():
-            kept = deepcopy(passed)
-            function(*passed)
-            self.assertEqual(passed, kept, function.__name__)
+    answered_by_yes_or_no = (machines.is_least, compare.alike, compare.agree)
+
+    def all_calls(self):
+        return all_calls()
 
     def test_one_list_in_both_places_stays_as_it_is(self):
         for machine in MACHINES:
@@ -54,42 +53,6 @@ class Untouched(unittest.TestCase):
                 self.assertEqual(function(own, own), function(own, deepcopy(own)))
             self.assertEqual(cut_in(own, "RL", own), least(own))
             self.assertEqual(own, machine)
-
-    def test_the_same_call_has_the_same_answer(self):
-        calls = all_calls()
-        answers = [deepcopy(function(*passed)) for function, passed in calls]
-        self.assertEqual([function(*passed) for function, passed in reversed(calls)], answers[::-1])
-
-    def test_what_is_returned_is_of_plain_kinds(self):
-        for function, passed in all_calls():
-            for part in parts(function(*passed)):
-                self.assertIn(type(part), (int, str, list, tuple, bool, type(None)), function.__name__)
-
-    def test_only_answers_of_yes_and_no_are_booleans(self):
-        for function, passed in all_calls():
-            answer = function(*passed)
-            if function in (machines.is_least, compare.alike, compare.agree):
-                self.assertIs(type(answer), bool)
-            else:
-                self.assertNotIn(bool, [type(part) for part in parts(answer)])
-
-    def test_no_list_is_returned_twice_or_stands_in_two_places(self):
-        calls = all_calls()
-        kept = [passed for _, passed in calls]
-        kept += [function(*passed) for function, passed in calls for _ in range(2)]
-        lists = [part for value in kept for part in parts(value) if isinstance(part, list)]
-        self.assertEqual(len({id(each) for each in lists}), len(lists))
-
-    def test_a_list_that_the_caller_changes_changes_no_later_answer(self):
-        for function, passed in all_calls():
-            answer = function(*passed)
-            before = deepcopy(answer)
-            for part in parts(answer):
-                if isinstance(part, list):
-                    part.reverse()
-                    part.append((("RRR", 0), ("LLL", 0), "RL"))
-                    part[0] = None
-            self.assertEqual(function(*passed), before, function.__name__)
 
     def test_the_least_form_of_a_least_form_is_a_new_one(self):
         for machine in MACHINES:

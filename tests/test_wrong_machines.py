@@ -4,59 +4,14 @@ import unittest
 from copy import deepcopy
 from itertools import product
 
-from leftroads import errors
 from leftroads.compare import agree, alike, falls, first_unlike, map_of, same_written
-from leftroads.errors import (
-    InvalidFraction, InvalidMachine, InvalidNumber, InvalidRoad, InvalidSquare, RoadError)
+from leftroads.errors import InvalidMachine, InvalidRoad
 from leftroads.machines import cut_in, is_least, joined, least, run, run_course
-from leftroads.maps import machine_of
 from leftroads.squares import fixing, other_root, rings, roots_of, spread
 from leftroads.waits import ahead, never, number_below, number_of_roads, rest_of_roads, surely, wait, writes
-
-PLAIN = ("", [(("L", 0), ("R", 0), "")])
-RIGHT_MACHINES = [PLAIN, machine_of((2, 0, 0, 1))]
-STATE = (("L", 0), ("RL", 1), "R")
-
-
-def with_state(state):
-    return ("R", [STATE, state])
-
-
-# Without states, with a text that is no road at each place, and with states that there are not.
-WRONG_MACHINES = [("", []), ("RL", []), ("X", [])] + [(first, [STATE, STATE]) for first in ("x", "RL ", "R1", "LM")]
-WRONG_MACHINES += [with_state(state) for word in ("X", "l", "RLr", " L", "-", "LxR") for state in [
-    ((word, 0), ("R", 1), "L"), (("L", 0), (word, 1), ""), (("L", 1), ("", 0), word)]]
-WRONG_MACHINES += [with_state(state) for number in (-1, -2, 2, 3, 40, -10 ** 9) for state in [
-    (("L", number), ("R", 1), "L"), (("L", 0), ("", number), "")]]
-WRONG_MACHINES += [
-    ("", [(("L", 1), ("R", 0), "")]), ("", [(("L", 0), ("R", 1), "")]), ("", [(("L", -1), ("R", 0), "")]),
-    ("", [(("L", 0), ("Q", 7), "M")]), ("M", [(("M", 9), ("N", -9), "M")])]
-FEW_MACHINES = [
-    ("", []), ("x", [STATE, STATE]), with_state((("L", 2), ("R", 0), "")), with_state((("L", 0), ("R", 0), "r"))]
-
-WRONG_ROADS = ["X", "l", "RLr", "xRL", "RL ", "LXR", "L1R", "-", "M", "LMR", "R" * 59 + "x", "(RL)", "~"]
-FEW_ROADS = ["X", "RLr", " "]
-MACHINE = (RIGHT_MACHINES, WRONG_MACHINES, InvalidMachine)
-FEW_OF_MACHINES = (RIGHT_MACHINES, FEW_MACHINES, InvalidMachine)
-ROAD = (["", "RL"], WRONG_ROADS, InvalidRoad)
-RING = (["R", "LLR"], WRONG_ROADS + [""], InvalidRoad)
-TURNING_RING = (["LR", "RRLRRL"], WRONG_ROADS + ["", "L", "R", "LLL", "RRRRRR"], InvalidRoad)
-FROM_ZERO = ([0, 3], [-1, -2, -10 ** 30], InvalidNumber)
-MODULUS = ([1, 10 ** 9], [0, -1, -7], InvalidNumber)
-FRACTION = ([(1, 1), (10 ** 9, 618033987)], [(0, 1), (1, 0), (0, 0), (-1, 2), (1, -2), (-1, -1), (2, 2), (6, 4)],
-            InvalidFraction)
-SQUARE = ([(1, -1, -1), (60, 0, 0)], [(0, 1, 1), (-1, 1, 1), (0, 0, 0), (-60, 60, 60), (0, -3, 1)], InvalidSquare)
-RING_NUMBER = ([2, 5, 999], [0, -1, -5, -4, 1, 4, 9, 16, 100, 961, 900], InvalidNumber)
-
-
-def named(*names):
-    return lambda *values: dict(zip(names, values))
-
-
-def course_behind(*names):
-    """The last two values are the road ahead and the ring of a course."""
-    return lambda *values: {**dict(zip(names, values[:-2])), "told": values[-2:]}
-
+from tests.wrong import (
+    FEW_MACHINES, FEW_OF_MACHINES, FEW_ROADS, FRACTION, FROM_ZERO, MACHINE, MODULUS, PLAIN, RIGHT_MACHINES, RING,
+    RING_NUMBER, ROAD, SQUARE, STATE, TURNING_RING, Wrongs, course_behind, named, with_state)
 
 # Of each question: what is checked, in order, and the arguments that are made of it.
 QUESTIONS = [
@@ -95,47 +50,10 @@ OF_ONE_MACHINE = {
     number_below: [3, (1, 2)]}
 
 
-class Wrong(unittest.TestCase):
-
-    def check(self, function, arguments, error, value):
-        for places, names in (((), arguments), (tuple(arguments.values()), {})):
-            with self.assertRaises(RoadError) as caught:
-                function(*places, **names)
-            self.check_error(caught.exception, error, value)
-            if error is InvalidMachine:
-                self.check_new_list(caught.exception.value, arguments.values())
-
-    def check_error(self, raised, error, value):
-        self.assertIs(type(raised), error)
-        self.assertIsInstance(raised, ValueError)
-        self.assertIs(type(raised.value), type(value))
-        self.assertEqual(raised.value, value)
-        for other in vars(errors).values():
-            if isinstance(other, type) and other not in (error, RoadError):
-                self.assertNotIsInstance(raised, other)
-
-    def check_new_list(self, machine, passed):
-        self.assertIs(type(machine[1]), list)
-        for each in passed:
-            if isinstance(each, tuple) and len(each) == 2:
-                self.assertIsNot(machine[1], each[1])
-
-    def expected(self, kinds, values):
-        """The error of the first value that is wrong, None if all are right."""
-        for (_, wrong, error), value in zip(kinds, values):
-            if value in wrong:
-                return error, value
-        return None
+class Wrong(Wrongs, unittest.TestCase):
 
     def test_every_question_in_every_place_and_in_several_at_once(self):
-        for function, kinds, arguments in QUESTIONS:
-            with self.subTest(function=function.__name__):
-                for values in product(*(right + wrong for right, wrong, _ in kinds)):
-                    expected = self.expected(kinds, values)
-                    if expected is None:
-                        function(**arguments(*values))
-                    else:
-                        self.check(function, arguments(*values), *expected)
+        self.check_all(QUESTIONS)
 
     def test_another_letter_at_any_place_of_a_road(self):
         road = "RLLRRRLRLL"
