@@ -70,10 +70,12 @@ def sure_step(rows, state, text):
     left, right, end = rows[state]
     if end.startswith(text):
         return None
+    # Each text is written for some road, so that one turn alone leads to it only
+    # if all that is written at this turn belongs to it.
     is_left, is_right = may_begin(rows, left, text), may_begin(rows, right, text)
-    if is_left and not is_right and text.startswith(left[0]):
+    if is_left and not is_right:
         return ("L", left[0], left[1])
-    if is_right and not is_left and text.startswith(right[0]):
+    if is_right and not is_left:
         return ("R", right[0], right[1])
     return None
 

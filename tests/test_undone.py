@@ -85,6 +85,15 @@ class Undone(unittest.TestCase):
         self.assertIsNone(misses(both))
         self.check_none(both)
 
+    def test_one_road_alone_that_is_written_twice(self):
+        # The roads of R alone move up by one, 1 stays: so 1 and R are sent to 1, and all courses stay as they are.
+        row = ("", [(("L", 2), ("", 1), ""), (("RL", 2), ("R", 1), ""), (("L", 2), ("R", 2), "")])
+        self.assertIsNone(misses(row))
+        self.assertEqual(sorted(same_written(row)), ["", "R"])
+        self.check_none(row)
+        self.check_none(joined(EXCHANGED, row))
+        self.check_none(joined(row, SECOND_FIRST))
+
     def test_the_first_turn_held_back_without_end(self):
         for machine in [HELD] + told_otherwise(seeded(932), HELD):
             self.assertIsNone(misses(machine))
