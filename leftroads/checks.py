@@ -3,7 +3,7 @@
 from math import gcd, isqrt
 
 from leftroads.errors import (
-    InvalidFraction, InvalidMachine, InvalidMap, InvalidNumber, InvalidRoad, InvalidSquare)
+    InvalidBook, InvalidFraction, InvalidMachine, InvalidMap, InvalidNumber, InvalidRoad, InvalidSquare)
 
 
 def is_road(text):
@@ -34,25 +34,39 @@ def check_turning_course(told):
         raise InvalidRoad(ring)
 
 
-def check_fraction(fraction):
-    """Raise InvalidFraction unless both integers are above 0 and have no common divisor."""
+def is_fraction(fraction):
+    """Return True if both integers are above 0 and have no common divisor."""
     above, below = fraction
-    if above < 1 or below < 1 or gcd(above, below) != 1:
+    return above > 0 and below > 0 and gcd(above, below) == 1
+
+
+def check_fraction(fraction):
+    """Raise InvalidFraction unless a tuple is a fraction."""
+    if not is_fraction(fraction):
         raise InvalidFraction(fraction)
 
 
-def check_undivided_map(one):
-    """Raise InvalidMap unless it is a map but for a common divisor of its integers."""
+def is_undivided_map(one):
+    """Return True if a tuple is a map but for a common divisor of its integers."""
     a, b, c, d = one
-    if min(a, b, c, d) < 0 or a * d == b * c:
+    return min(a, b, c, d) >= 0 and a * d != b * c
+
+
+def check_undivided_map(one):
+    """Raise InvalidMap unless a tuple is a map but for a common divisor of its integers."""
+    if not is_undivided_map(one):
         raise InvalidMap(one)
 
 
-def check_map(one):
-    """Raise InvalidMap unless it is a map."""
-    check_undivided_map(one)
+def is_map(one):
+    """Return True if a tuple is a map."""
     a, b, c, d = one
-    if gcd(a, b, c, d) != 1:
+    return is_undivided_map(one) and gcd(a, b, c, d) == 1
+
+
+def check_map(one):
+    """Raise InvalidMap unless a tuple is a map."""
+    if not is_map(one):
         raise InvalidMap(one)
 
 
@@ -94,3 +108,38 @@ def is_state(row, many):
     if not (0 <= left < many and 0 <= right < many):
         return False
     return is_road(left_word) and is_road(right_word) and is_road(end)
+
+
+def check_book(book):
+    """Raise InvalidBook, with a new list, unless a list is a book."""
+    if not is_book(book):
+        raise InvalidBook(list(book))
+
+
+def is_book(book):
+    """Return True if the entries of a list stand in their order and every road is told by just one of them."""
+    numbers = {}
+    last = (-1, "")
+    for road, told in book:
+        place = (len(road), road)
+        if not is_road(road) or place <= last or not is_told(told):
+            return False
+        last = place
+        numbers[road] = len(told)
+    return "" in numbers and all([is_told_once(road, numbers) for road in numbers])
+
+
+def is_told(told):
+    """Return True if a tuple is a fraction or a map."""
+    return is_fraction(told) if len(told) == 2 else is_map(told)
+
+
+def is_told_once(road, numbers):
+    """Return True if a road is behind one that is told alone, and is told alone exactly if both behind it are told.
+
+    How many integers stand with each road tells which ones are told alone.
+    """
+    is_behind = road == "" or numbers.get(road[:-1]) == 2
+    if numbers[road] == 2:
+        return is_behind and road + "L" in numbers and road + "R" in numbers
+    return is_behind

@@ -1,12 +1,11 @@
 """Machines compared: with one another, with maps, and what one of them writes for unlike roads."""
 
 from leftroads.checks import check_machine
-from leftroads.fits import does_map, map_through
+from leftroads.fits import map_from
 from leftroads.forms import least_form
+from leftroads.matrices import matrix_of, times
 from leftroads.pairs import first_fall, first_parting, first_two_alike
-from leftroads.roads import number_of
 from leftroads.traces import have_same_traces
-from leftroads.walks import write_all
 
 
 def alike(one, other):
@@ -33,12 +32,12 @@ def agree(one, other):
 def map_of(machine):
     """Return the map whose machine a machine is alike to, None if there is none."""
     check_machine(machine)
-    # Only one map fits three numbers; it is that of the machine, or none is.
-    roads = ["L", "", "R"]
-    one = map_through([number_of(road) for road in roads], [number_of(write_all(machine, road)) for road in roads])
-    if one is None or not does_map(machine, one):
+    first, rows = machine
+    # All that begins with the first road is sent there by a map only if the rest is sent by one.
+    one = map_from(rows, 0)
+    if one is None:
         return None
-    return one
+    return times(matrix_of(first), one)
 
 
 def falls(machine):

@@ -4,6 +4,7 @@ from math import gcd
 
 from leftroads.matrices import matrix_of, times
 from leftroads.roads import number_of
+from leftroads.walks import write_rest
 
 
 def map_through(ahead, behind):
@@ -31,13 +32,23 @@ def crossed(one, other):
     return one[0] * other[1] - other[0] * one[1]
 
 
-def does_map(machine, one):
-    """Return True if a machine writes what a map sends for every road, otherwise False."""
-    first, rows = machine
+def map_from(rows, state):
+    """Return the map that a machine does with all roads from a state on, None if there is none."""
+    # Only one map fits three numbers; it is that of the state, or none is.
+    roads = ["L", "", "R"]
+    one = map_through(
+        [number_of(road) for road in roads], [number_of(write_rest(rows, state, road)) for road in roads])
+    if one is None or not does_map(rows, state, one):
+        return None
+    return one
+
+
+def does_map(rows, start, one):
+    """Return True if from a state on a machine writes what a map sends for every road, otherwise False."""
     # What stands between the rest of the road and the rest that is to be written
     # has no common divisor and no other sign, so that it is told in one way.
-    standing = {0: without_road(first, one)}
-    found = [0]
+    standing = {start: one}
+    found = [start]
     at = 0
     while at < len(found):
         state = found[at]

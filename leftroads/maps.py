@@ -71,18 +71,13 @@ def machine_of(one):
     """Return the least form of the machine that does with roads what a map does with their fractions."""
     check_map(one)
     first, start = settled(one)
-    found, steps = standings_from(start)
-    rows = []
-    for standing, (left, right) in zip(found, steps):
-        rows.append((left, right, road_of(sent(standing, (1, 1)))))
-    return (first, rows)
+    return (first, rows_of_standings(standings_from([start])))
 
 
 def standings(one):
     """Return the list of the maps that stand at the states of the machine of a map."""
     check_map(one)
-    found, _ = standings_from(settled(one)[1])
-    return found
+    return list(standings_from([settled(one)[1]]))
 
 
 def settled(one):
@@ -101,22 +96,32 @@ def settled(one):
     return "".join(turns), (a, b, c, d)
 
 
-def standings_from(start):
-    """Return the list of the standings from the first one on, and that of their steps for L and R."""
+def standings_from(starts):
+    """Return the dict of the standings from some on, in their order, each with its steps for L and R."""
     # Unlike maps are never alike, so that no two standings could share a state.
-    found = [start]
-    numbers = {start: 0}
-    steps = []
-    while len(steps) < len(found):
-        pair = []
+    steps = {start: [] for start in starts}
+    found = list(steps)
+    at = 0
+    while at < len(found):
+        one = found[at]
+        at += 1
         for turn in "LR":
-            word, standing = settled(times(found[len(steps)], matrix_of(turn)))
-            if standing not in numbers:
-                numbers[standing] = len(found)
+            word, standing = settled(times(one, matrix_of(turn)))
+            if standing not in steps:
+                steps[standing] = []
                 found.append(standing)
-            pair.append((word, numbers[standing]))
-        steps.append((pair[0], pair[1]))
-    return found, steps
+            steps[one].append((word, standing))
+    return steps
+
+
+def rows_of_standings(steps):
+    """Return the list of the states that stand for standings, by the dict of their steps."""
+    numbers = {standing: number for number, standing in enumerate(steps)}
+    rows = []
+    for standing, own in steps.items():
+        left, right = [(word, numbers[follower]) for word, follower in own]
+        rows.append((left, right, road_of(sent(standing, (1, 1)))))
+    return rows
 
 
 def course_sent(one, told):

@@ -99,6 +99,36 @@ TABLES = """
 [['R', '', 'RRR'], None, ('', [(('L', 0), ('R', 0), '')]), ('', [(('L', 0), ('R', 0), 'L')]), True]
 """
 
+BOOKS = """
+>>> from leftroads.books import book_behind, book_of, least_book, machine_of_book, sent_by, wild
+>>> from leftroads.maps import machine_of
+>>> fold = [("", (1, 1)), ("L", (1, 1, 1, 0)), ("R", (1, 1, 0, 1))]
+>>> [sent_by(fold, (1, 3)), sent_by(fold, (3, 1)), machine_of_book(fold), book_behind(fold, fold) == fold]
+[(3, 1), (3, 1), ('', [(('R', 1), ('R', 2), ''), (('R', 1), ('L', 1), ''), (('L', 2), ('R', 2), '')]), True]
+>>> [book_of(machine_of((2, 0, 0, 1))), least_book([("", (2, 1)), ("L", (2, 0, 1, 1)), ("R", (2, 2, 0, 1))])]
+[[('', (2, 0, 0, 1))], [('', (2, 0, 0, 1))]]
+>>> [book_of(("", [(("L", 0), ("R", 0), "L")])), wild(("", [(("L", 0), ("R", 0), "L")])) is None, wild(machine_of((2, 0, 0, 1)))]
+[None, False, None]
+"""
+
+READERS = """
+>>> from leftroads.maps import machine_of
+>>> from leftroads.readers import Reader
+>>> reader = Reader(machine_of((2, 0, 0, 1)))
+>>> [reader("R"), reader("L"), reader.written(), reader.road(), reader.end(), reader.undo(), reader("R"), reader.written(), reader.between(), len(reader)]
+['RR', '', 'RR', 'RL', '', None, 'RL', 'RRRL', ((3, 1), (4, 1)), 3]
+"""
+
+# The examples of leftroads.texts stand under the head of leftroads.readings.
+READINGS = """
+>>> from leftroads.maps import machine_of
+>>> from leftroads.readings import read_course, read_machine, read_map
+>>> from leftroads.texts import show_course, show_machine, show_map
+>>> next_one = machine_of((1, 1, 0, 1))
+>>> [show_map((2, 1, 0, 3)), read_map("(2 x + 1) / (0 x + 3)"), show_machine(next_one), read_machine("R; L>0 R>0 -") == next_one, show_course(("", "RL")), read_course("R(RL)")]
+['(2 x + 1) / (0 x + 3)', (2, 1, 0, 3), 'R; L>0 R>0 -', True, '(RL)', ('R', 'RL')]
+"""
+
 
 class Examples(unittest.TestCase):
 
@@ -137,8 +167,17 @@ class Examples(unittest.TestCase):
     def test_tables(self):
         self.check("tables", TABLES, 4)
 
+    def test_books(self):
+        self.check("books", BOOKS, 6)
+
+    def test_readers(self):
+        self.check("readers", READERS, 4)
+
+    def test_readings(self):
+        self.check("readings", READINGS, 5)
+
     def test_readme(self):
-        self.check("README.md", README.read_text(), 48)
+        self.check("README.md", README.read_text(), 64)
 
 
 if __name__ == "__main__":

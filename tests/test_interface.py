@@ -34,7 +34,18 @@ FUNCTIONS = {
         "rate": ["machine", "told"], "rates": ["machine"], "slowest": ["machine"], "fastest": ["machine"]},
     "guesses": {"fitting": ["seen", "most"], "told_back": ["seen"], "parting": ["maps"]},
     "tables": {"table_of": ["machine", "length"], "machine_from": ["words", "most"]},
+    "books": {
+        "book_of": ["machine"], "machine_of_book": ["book"], "sent_by": ["book", "fraction"], "least_book": ["book"],
+        "book_behind": ["one", "other"], "wild": ["machine"]},
+    "texts": {"show_map": ["one"], "show_machine": ["machine"], "show_course": ["told"]},
+    "readings": {"read_map": ["text"], "read_machine": ["text"], "read_course": ["text"]},
 }
+METHODS = {
+    "__init__": ["machine"], "__call__": ["turn"], "end": [], "written": [], "road": [], "between": [], "undo": [],
+    "__len__": [], "__eq__": ["other"]}
+ERRORS = [
+    "RoadError", "InvalidRoad", "InvalidFraction", "InvalidMap", "InvalidMachine", "InvalidBook", "InvalidSquare",
+    "InvalidNumber", "InvalidTurn", "HasEnded", "NothingToUndo", "Unreadable"]
 
 
 class Interface(unittest.TestCase):
@@ -52,6 +63,22 @@ class Interface(unittest.TestCase):
                     for each in parameters:
                         self.assertIs(each.kind, inspect.Parameter.POSITIONAL_OR_KEYWORD)
                         self.assertIs(each.default, inspect.Parameter.empty)
+
+    def test_readers_have_their_methods_in_their_own_class(self):
+        reader = importlib.import_module("leftroads.readers").Reader
+        self.assertEqual(reader.__module__, "leftroads.readers")
+        for called, arguments in METHODS.items():
+            method = vars(reader)[called]
+            self.assertTrue(inspect.isfunction(method))
+            self.assertEqual(list(inspect.signature(method).parameters)[1:], arguments)
+
+    def test_errors_are_classes_of_their_file(self):
+        module = importlib.import_module("leftroads.errors")
+        for name in ERRORS:
+            error = getattr(module, name)
+            self.assertEqual(error.__module__, "leftroads.errors")
+            self.assertEqual(error("x").value, "x")
+            self.assertEqual(error(value=("x", [1])).value, ("x", [1]))
 
 
 if __name__ == "__main__":
