@@ -83,7 +83,8 @@ def parted(book, road):
     one = dict(book)[road]
     rest = [entry for entry in book if entry[0] != road]
     return in_order(rest + [
-        (road, moved(one, (1, 1))), (road + "L", put_behind(one, matrix("L"))), (road + "R", put_behind(one, matrix("R")))])
+        (road, moved(one, (1, 1))), (road + "L", put_behind(one, matrix("L"))),
+        (road + "R", put_behind(one, matrix("R")))])
 
 
 def least_found(book):

@@ -68,7 +68,8 @@ class SentBy(unittest.TestCase):
     def test_fractions_with_very_long_roads(self):
         great = 10 ** 9
         for book in drawn_books(1207, 30) + [FOLD, SAME]:
-            for fraction in [(great, 1), (1, great), (great, great - 1), (great - 1, great), (great - 1, 2), (3, great)]:
+            for fraction in [(great, 1), (1, great), (great, great - 1), (great - 1, great), (great - 1, 2),
+                             (3, great)]:
                 self.assertEqual(sent_by(book, fraction), number_sent(book, fraction))
         self.assertEqual(sent_by(FOLD, (1, great)), (great, 1))
         self.assertEqual(sent_by(SAME, (1, great)), (1, great))
@@ -114,7 +115,8 @@ class MachineOfBook(unittest.TestCase):
     def test_fractions_with_long_roads(self):
         random = seeded(1214)
         for _ in range(10):
-            book = [("", told(random_road(random, 60))), ("L", (2, 0, 0, 1)), ("R", told("R" * 60)), ("RL", (0, 1, 1, 0)),
+            book = [("", told(random_road(random, 60))), ("L", (2, 0, 0, 1)), ("R", told("R" * 60)),
+                    ("RL", (0, 1, 1, 0)),
                     ("RR", (1, 0, 0, 1))]
             machine = machine_of_book(book)
             for road in all_roads(4):
@@ -284,7 +286,8 @@ class BookOf(unittest.TestCase):
     def test_machines_with_other_books(self):
         for machine, book in [
                 (PLAIN, SAME), (EXCHANGED, [("", (1, 1)), ("L", (1, 1, 0, 1)), ("R", (1, 0, 1, 1))]),
-                (ALONG, [("", (2, 1)), ("L", (1, 1)), ("R", (1, 2, 0, 1)), ("LL", (1, 0, 1, 1)), ("LR", (2, 1, 1, 1))])]:
+                (ALONG, [("", (2, 1)), ("L", (1, 1)), ("R", (1, 2, 0, 1)), ("LL", (1, 0, 1, 1)),
+                         ("LR", (2, 1, 1, 1))])]:
             self.assertEqual(self.check(machine), book)
         self.assertIsNotNone(self.check(SECOND_FIRST))
 
@@ -308,7 +311,8 @@ class BookOf(unittest.TestCase):
         rows = [(("L", 1), ("R", 0), "L"), (("L", 1), ("R", 1), "")]
         self.assertIsNone(self.check(("", rows)))
         self.assertEqual(wild(("", rows)), ("", "R"))
-        rows = [(("L", 2), ("R", 1), "L"), (("", 3), ("R", 2), "R"), (("L", 2), ("R", 2), ""), (("LL", 1), ("R", 2), "")]
+        rows = [(("L", 2), ("R", 1), "L"), (("", 3), ("R", 2), "R"), (("L", 2), ("R", 2), ""),
+                (("LL", 1), ("R", 2), "")]
         self.assertIsNone(self.check(("", rows)))
         self.assertEqual(wild(("", rows)), ("R", "L"))
         rows[3] = (("LL", 2), ("R", 2), "")
@@ -427,7 +431,8 @@ class BookBehind(unittest.TestCase):
 
     def test_maps_that_lead_into_one_entry_only_slowly(self):
         # The roads of R alone are halved again and again before they leave the entries that are told alone.
-        row = [("", (1, 1)), ("L", (1, 0, 1, 1)), ("R", (3, 1)), ("RL", (2, 1, 1, 1)), ("RR", (5, 1)), ("RRL", (3, 2, 1, 1)),
+        row = [("", (1, 1)), ("L", (1, 0, 1, 1)), ("R", (3, 1)), ("RL", (2, 1, 1, 1)), ("RR", (5, 1)),
+               ("RRL", (3, 2, 1, 1)),
                ("RRR", (7, 1)), ("RRRL", (1, 3, 0, 1)), ("RRRR", (1, 4, 0, 1))]
         for one in [(1, 0, 0, 6), (6, 0, 0, 1), (0, 6, 1, 0), (1, 5, 0, 6), (2, 11, 1, 6), (12, 6, 1, 1)]:
             self.check([("", one)], row)

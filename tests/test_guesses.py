@@ -55,7 +55,8 @@ class Fitting(unittest.TestCase):
     def test_the_empty_list_is_fit_by_all_maps(self):
         for most in range(5):
             self.assertEqual(self.check([], most), sorted(all_maps(most)))
-        self.assertEqual(fitting([], 1), [(0, 1, 1, 0), (0, 1, 1, 1), (1, 0, 0, 1), (1, 0, 1, 1), (1, 1, 0, 1), (1, 1, 1, 0)])
+        self.assertEqual(fitting([], 1), [(0, 1, 1, 0), (0, 1, 1, 1), (1, 0, 0, 1), (1, 0, 1, 1), (1, 1, 0, 1),
+                                          (1, 1, 1, 0)])
 
     def test_no_map_has_integers_to_nothing(self):
         self.assertEqual(self.check([], 0), [])
@@ -163,7 +164,8 @@ class ToldBack(unittest.TestCase):
 
     def test_great_integers(self):
         random = seeded(983)
-        for one in [(300007, 200003, 100003, 400009), (999983, 1, 2, 999979), (0, 777777, 555551, 3), (1, 0, 0, 654321)]:
+        for one in [(300007, 200003, 100003, 400009), (999983, 1, 2, 999979), (0, 777777, 555551, 3),
+                    (1, 0, 0, 654321)]:
             self.assertTrue(is_map(one))
             seen = seen_by(one, unlike_fractions(random, 6, 60))
             self.assertEqual(self.check(seen[:3]), one)

@@ -23,6 +23,13 @@ KEYWORDS = {
     ("sorted", "key"), ("sorted", "reverse"), ("min", "key"), ("min", "default"), ("max", "key"), ("max", "default"),
     ("sum", "start"), ("enumerate", "start"), ("zip", "strict")}
 CHANGES = {"append", "clear", "extend", "insert", "pop", "remove", "reverse", "setdefault", "update", "sort"}
+METHODS = set("""
+    append clear copy count endswith extend find get index insert isalnum isalpha isdigit islower isspace isupper items
+    join keys ljust lower lstrip partition pop remove replace reverse rfind rjust rpartition rsplit rstrip setdefault
+    split splitlines startswith strip update upper values zfill bit_length title capitalize swapcase casefold center
+    expandtabs removeprefix removesuffix rindex isascii isdecimal isnumeric istitle isidentifier isprintable
+    """.split())
+SPECIAL = {"__init__", "__call__", "__eq__", "__len__", "__repr__", "__str__"}
 BARRED = (ast.AsyncFunctionDef, ast.AsyncFor, ast.AsyncWith, ast.Await, ast.Import, ast.Div)
 
 
@@ -131,6 +138,40 @@ class Language(unittest.TestCase):
     def defined(self, tree):
         names = {node.name for node in tree.body if isinstance(node, (ast.FunctionDef, ast.ClassDef))}
         return names | {target.id for node in tree.body if isinstance(node, ast.Assign) for target in node.targets}
+
+    def test_methods_are_known_or_those_of_the_own_classes(self):
+        own = {node.name for _, node in self.nodes(ast.FunctionDef)}
+        for name, node in self.nodes(ast.Call):
+            if isinstance(node.func, ast.Attribute):
+                self.assertIn(node.func.attr, METHODS | own, (name, node.lineno))
+        for name, node in self.nodes(ast.FunctionDef):
+            if node.name.startswith("__"):
+                self.assertIn(node.name, SPECIAL, name)
+
+    def test_what_a_class_with_equality_and_a_length_does_not_allow(self):
+        # Generators within any and all, errors that are caught, and lists that are sorted where they stand.
+        self.assertEqual(self.nodes(ast.GeneratorExp, ast.Try), [])
+        for name, node in self.nodes(ast.Attribute):
+            self.assertNotEqual(node.attr, "sort", name)
+
+    def test_the_plain_stroke_is_never_read(self):
+        for name, node in self.nodes(ast.Name):
+            if node.id == "_":
+                self.assertIsInstance(node.ctx, ast.Store, (name, node.lineno))
+
+    def test_is_stands_beside_none_alone(self):
+        for name, node in self.nodes(ast.Compare):
+            for sign, other in zip(node.ops, node.comparators):
+                if isinstance(sign, (ast.Is, ast.IsNot)):
+                    self.assertIsInstance(other, ast.Constant, (name, node.lineno))
+                    self.assertIn(other.value, (None, True, False), (name, node.lineno))
+
+    def test_sets_stand_where_they_are_measured_or_sorted(self):
+        found = [node for _, node in self.nodes(ast.Set, ast.SetComp)]
+        for _, node in self.nodes(ast.Call):
+            if getattr(node.func, "id", "") in ("len", "sorted"):
+                found = [each for each in found if ast.dump(each) != ast.dump(node.args[0])]
+        self.assertEqual(found, [])
 
     def test_loops_do_not_change_what_they_go_over(self):
         for name, node in self.nodes(ast.For):

@@ -63,7 +63,8 @@ class Rate(unittest.TestCase):
             for ring in ("L", "LL", "LLLLL", "LLLLLL"):
                 self.assertEqual(rate(("L", rows), ("", ring)), expected)
         # The first rounds do not come again.
-        rows = [(("LLLL", 1), ("L", 1), ""), (("LLL", 2), ("L", 2), ""), (("", 3), ("L", 2), ""), (("R", 2), ("L", 2), "")]
+        rows = [(("LLLL", 1), ("L", 1), ""), (("LLL", 2), ("L", 2), ""), (("", 3), ("L", 2), ""),
+                (("R", 2), ("L", 2), "")]
         self.assertEqual(rate(("RRR", rows), ("", "L")), (1, 2))
         self.assertEqual(rate(("RRR", rows), ("", "LLL")), (1, 2))
         self.assertEqual(rate(("RRR", rows), ("LL", "LR")), (1, 2))
@@ -132,7 +133,8 @@ class Rates(unittest.TestCase):
     def test_states_that_are_left_for_ever(self):
         rows = [(("LLLL", 1), ("", 1), ""), (("L", 2), ("RR", 1), ""), (("RRR", 2), ("RR", 2), "")]
         self.assertEqual(self.check(("", rows)), ((2, 1), (3, 1)))
-        rows = [(("LLLL", 0), ("L", 1), ""), (("L", 1), ("R", 2), ""), (("", 3), ("L", 1), ""), (("LL", 3), ("LL", 3), "")]
+        rows = [(("LLLL", 0), ("L", 1), ""), (("L", 1), ("R", 2), ""), (("", 3), ("L", 1), ""),
+                (("LL", 3), ("LL", 3), "")]
         self.assertEqual(self.check(("", rows)), ((1, 1), (4, 1)))
 
     def test_rounds_of_all_states(self):
@@ -149,7 +151,8 @@ class Rates(unittest.TestCase):
 
     def test_rates_that_lie_close_together(self):
         rows = [(("L", 1), ("R", 3), ""), (("L", 2), ("R", 2), ""), (("L", 0), ("LL", 0), ""),
-                (("L", 4), ("L", 4), ""), (("L", 5), ("L", 5), ""), (("L", 6), ("LLL", 0), ""), (("LL", 0), ("LLL", 0), "")]
+                (("L", 4), ("L", 4), ""), (("L", 5), ("L", 5), ""), (("L", 6), ("LLL", 0), ""),
+                (("LL", 0), ("LLL", 0), "")]
         self.assertEqual(self.check(("", rows)), ((1, 1), (3, 2)))
         rows = [(("", 1), ("", 3), ""), (("L", 2), ("L", 2), ""), (("", 0), ("", 0), ""),
                 (("L", 4), ("L", 4), ""), (("", 5), ("", 5), ""), (("L", 6), ("L", 6), ""), (("", 0), ("", 0), "")]

@@ -210,7 +210,8 @@ class MachineFrom(unittest.TestCase):
         # Each word is told by others, so that no machine of so many states writes just one of them otherwise.
         for machine, most in [(NEXT, 1), (("", [(("L", 0), ("R", 0), "L")]), 1),
                               (("", [(("L", 1), ("R", 0), "R"), (("RL", 0), ("", 1), "")]), 2),
-                              (("", [(("L", 1), ("R", 2), ""), (("R", 0), ("L", 1), "L"), (("", 2), ("RR", 0), "")]), 3)]:
+                              (("", [(("L", 1), ("R", 2), ""), (("R", 0), ("L", 1), "L"), (("", 2), ("RR", 0), "")]),
+                               3)]:
             words = table_of(machine, 2 * most - 1)
             self.assertEqual(machine_from(words, most), least(machine))
             for at in range(1, len(words)):

@@ -111,7 +111,8 @@ class Maps(Texts):
         for number, is_read in [("123456789", True), ("999999999", True), ("1234567890", False), ("01", False),
                                 ("00", False), ("001234567", False), ("", False), ("-1", False), ("+1", False),
                                 ("1.0", False), ("1e3", False), ("x", False), ("1_0", False), ("0x1", False)]:
-            for text in (f"({number} x + 1) / (1 x + 0)", f"(1 x + {number}) / (0 x + 1)", f"(1 x + 0) / ({number} x + 1)",
+            for text in (f"({number} x + 1) / (1 x + 0)", f"(1 x + {number}) / (0 x + 1)",
+                         f"(1 x + 0) / ({number} x + 1)",
                          f"(0 x + 1) / (1 x + {number})"):
                 self.assertEqual(self.check(text) is not None, is_read, text)
 
@@ -123,7 +124,8 @@ class Maps(Texts):
     def test_texts_that_are_none(self):
         for text in ["", " ", "x", "(1 x + 0) / (0 x + 1) ", " (1 x + 0) / (0 x + 1)", "(1 x + 0) / (0 x + 1)(", "()",
                      "(1 x + 0)/(0 x + 1)", "(1x + 0) / (0x + 1)", "1 x + 0 / 0 x + 1", "(1 x + 0) / (0 x - 1)",
-                     "(1 x + 0) / (0 x + 1) / (0 x + 1)", "((1 x + 0)) / (0 x + 1)", "(1 y + 0) / (0 y + 1)", "L", "(L)",
+                     "(1 x + 0) / (0 x + 1) / (0 x + 1)", "((1 x + 0)) / (0 x + 1)", "(1 y + 0) / (0 y + 1)", "L",
+                     "(L)",
                      "(1 x + 0) * (0 x + 1)", "(1  x + 0) / (0 x + 1)", "1)( x + 0 / (0 x + 1)", "-; L>0 R>0 -",
                      "(x x + 0) / (0 x + 1)", "(1 x + 0) / (0 x + 1", "(1 0 0 1)", "1 0 0 1", "~" * 3000, "(" * 3000]:
             self.assertIsNone(self.check(text))
@@ -184,20 +186,24 @@ class Machines(Texts):
 
     def test_one_sign_changed_at_each_place(self):
         seen = set()
-        for machine in [("R", [(("L", 0), ("R", 0), "")]), ("", [(("", 1), ("RL", 0), "L"), (("LR", 1), ("", 0), "R")])]:
+        for machine in [("R", [(("L", 0), ("R", 0), "")]),
+                        ("", [(("", 1), ("RL", 0), "L"), (("LR", 1), ("", 0), "R")])]:
             for text in changed(show_machine(machine)):
                 seen.add(self.check(text) is None)
         self.assertEqual(seen, {True, False})
 
     def test_states_that_there_are_not(self):
-        for text in ["-; L>1 R>0 -", "-; L>0 R>1 -", "-; L>0 R>2 -; L>1 R>0 -", "-; L>0 R>999999999 -", "-; L>-1 R>0 -"]:
+        for text in ["-; L>1 R>0 -", "-; L>0 R>1 -", "-; L>0 R>2 -; L>1 R>0 -", "-; L>0 R>999999999 -",
+                     "-; L>-1 R>0 -"]:
             self.assertIsNone(self.check(text))
-        self.assertEqual(self.check("-; L>1 R>1 -; L>0 R>0 -"), ("", [(("L", 1), ("R", 1), ""), (("L", 0), ("R", 0), "")]))
+        self.assertEqual(self.check("-; L>1 R>1 -; L>0 R>0 -"),
+                         ("", [(("L", 1), ("R", 1), ""), (("L", 0), ("R", 0), "")]))
 
     def test_integers_with_leading_zeros_or_with_ten_digits(self):
         many = "".join(["; L>0 R>0 -"] * 13)
         for number, is_read in [("0", True), ("12", True), ("13", False), ("00", False), ("01", False), ("012", False),
-                                ("1234567890", False), ("0000000001", False), ("", False), ("+1", False), ("1 ", False)]:
+                                ("1234567890", False), ("0000000001", False), ("", False), ("+1", False),
+                                ("1 ", False)]:
             for text in (f"-; L>{number} R>0 -{many[11:]}", f"-{many[11:]}; L>0 R>{number} -"):
                 self.assertEqual(self.check(text) is not None, is_read, text)
 
@@ -208,8 +214,10 @@ class Machines(Texts):
 
     def test_texts_that_are_none(self):
         for text in ["", "-", "R", "; ", "-; ", "-;", "-; L>0 R>0", "-; L>0 R>0 - ", " -; L>0 R>0 -", "-; L>0 R>0 -;",
-                     "-; L>0 R>0 -; ", "-;L>0 R>0 -", "-;  L>0 R>0 -", "-; L>0  R>0 -", "-; L>0 R>0  -", "- ; L>0 R>0 -",
-                     "-; L > 0 R > 0 -", "-; L>0 R>0 - -", "-; L>0 R>0 L>0 -", "-; L>0>0 R>0 -", "-; L>0 R>0 -; L>0", "(L)",
+                     "-; L>0 R>0 -; ", "-;L>0 R>0 -", "-;  L>0 R>0 -", "-; L>0  R>0 -", "-; L>0 R>0  -",
+                     "- ; L>0 R>0 -",
+                     "-; L > 0 R > 0 -", "-; L>0 R>0 - -", "-; L>0 R>0 L>0 -", "-; L>0>0 R>0 -", "-; L>0 R>0 -; L>0",
+                     "(L)",
                      "-; L 0 R 0 -", "-, L>0 R>0 -", "L>0 R>0 -", "-; -", "-; L>0 R>0 -\\", "~" * 3000, "; " * 1500]:
             self.assertIsNone(self.check(text))
 
@@ -266,8 +274,10 @@ class Courses(Texts):
         self.assertEqual(seen, {True, False})
 
     def test_texts_that_are_none(self):
-        for text in ["", "()", "L()", "(", ")", "L", "RL", "(L", "L)", ")L(", "(L) ", " (L)", "L (R)", "( L)", "((L))", "(L)(R)",
-                     "(L)R", "R(L)R", "L(R(L))", "(l)", "x(L)", "(Lx)", "-(L)", "(-)", "[L]", "(L,R)", "R[L]", "~" * 3000,
+        for text in ["", "()", "L()", "(", ")", "L", "RL", "(L", "L)", ")L(", "(L) ", " (L)", "L (R)", "( L)", "((L))",
+                     "(L)(R)",
+                     "(L)R", "R(L)R", "L(R(L))", "(l)", "x(L)", "(Lx)", "-(L)", "(-)", "[L]", "(L,R)", "R[L]",
+                     "~" * 3000,
                      "-; L>0 R>0 -", "(1 x + 0) / (0 x + 1)"]:
             self.assertIsNone(self.check(text))
 

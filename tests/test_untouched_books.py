@@ -18,7 +18,8 @@ from tests.turning import ALONG, COUNTED, HELD, PLAIN
 FOLD = [("", (1, 1)), ("L", (1, 1, 1, 0)), ("R", (1, 1, 0, 1))]
 BOOKS = [[("", (1, 0, 0, 1))], FOLD, parted(parted([("", (2, 1, 0, 3))], ""), "R"), exchanging_book(seeded(1601), 5)[0]]
 BOOKS += [random_book(seeded(1602), leaves) for leaves in (1, 3, 8)]
-MACHINES = [PLAIN, HELD, ALONG, COUNTED, machine_of((2, 0, 0, 1)), machine_of_book(FOLD)] + some_machines(seeded(1603), 5)
+MACHINES = [PLAIN, HELD, ALONG, COUNTED, machine_of((2, 0, 0, 1)), machine_of_book(FOLD)] + some_machines(seeded(1603),
+                                                                                                          5)
 
 
 class Untouched(Kept, unittest.TestCase):
@@ -44,7 +45,8 @@ class Untouched(Kept, unittest.TestCase):
     def test_a_book_that_was_changed_is_read_anew(self):
         for book, other in zip(BOOKS, BOOKS[1:] + BOOKS[:1]):
             own = list(book)
-            for function, passed in [(machine_of_book, ()), (least_book, ()), (sent_by, ((7, 4),)), (book_behind, (FOLD,))]:
+            for function, passed in [(machine_of_book, ()), (least_book, ()), (sent_by, ((7, 4),)),
+                                     (book_behind, (FOLD,))]:
                 own[:] = book
                 function(own, *passed)
                 own[:] = other

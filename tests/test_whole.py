@@ -35,7 +35,8 @@ def map_answers(one, other, fraction, told_course):
         least_map(*one), size(one), sent(one, fraction), behind(one, other), turned(one), before(one, fraction),
         machine_of(one), standings(one), course_sent(one, told_course), fixed(one), show_map(one),
         read_map(show_map(one)), road_of(sent(one, (3, 2))), parting([one, other] if one != other else [one]),
-        told_back([(each, sent(one, each)) for each in ((1, 2), (1, 1), (2, 1))]), fitting([((1, 1), sent(one, (1, 1)))], 2)]
+        told_back([(each, sent(one, each)) for each in ((1, 2), (1, 1), (2, 1))]),
+        fitting([((1, 1), sent(one, (1, 1)))], 2)]
 
 
 def machine_answers(machine, road, told_course):
@@ -68,7 +69,8 @@ def led(machine, road):
 
 
 def two_answers(one, other, road):
-    return [joined(one, other), cut_in(one, road, other), alike(one, other), first_unlike(one, other), agree(one, other)]
+    return [joined(one, other), cut_in(one, road, other), alike(one, other), first_unlike(one, other),
+            agree(one, other)]
 
 
 def book_answers(book, other, fraction):
@@ -153,7 +155,8 @@ class Courses(unittest.TestCase):
                 self.assertIn(told_course, roots_of((a, b, c)))
                 self.assertEqual(spread(told_course), b * b - 4 * a * c)
                 other = other_root(told_course)
-                expected = [told_course] if other is None else sorted([told_course, other], key=lambda each: turns_of(each, 60))
+                expected = [told_course] if other is None else sorted([told_course, other],
+                                                                      key=lambda each: turns_of(each, 60))
                 self.assertEqual(roots_of((a, b, c)), expected)
                 self.assertEqual(read_course(show_course(told_course)), told_course)
                 for one in fixing(told_course, 3):

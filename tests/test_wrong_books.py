@@ -54,6 +54,12 @@ def behind_a_map(book):
     return made
 
 
+def with_a_road_that_is_none(book):
+    """One entry too many, behind a road that is told alone, but by another letter."""
+    return [in_order(book + [(road + letter, more)]) for road, value in book if len(value) == 2
+            for letter in ("X", "l", " ", "~", "-", "M") for more in ((1, 2), (1, 0, 0, 1))]
+
+
 def of_another_kind(book):
     """A map told as a fraction, or a fraction as a map."""
     return [with_entry(book, at, (road, (1, 2) if len(value) == 4 else (1, 0, 0, 1)))
@@ -71,12 +77,15 @@ def with_wrong_parts(book):
 WRONG_BOOKS = [[]]
 for right in BOOKS:
     WRONG_BOOKS += left_out_or_twice(right) + at_another_place(right) + behind_a_map(right) + with_wrong_parts(right)
-    WRONG_BOOKS += of_another_kind(right)
+    WRONG_BOOKS += of_another_kind(right) + with_a_road_that_is_none(right)
 WRONG_BOOKS += [
-    [("L", (1, 0, 0, 1))], [("L", (1, 0, 0, 1)), ("R", (1, 0, 0, 1))], [("", (1, 1))], [("R", (1, 1)), ("RL", (1, 0, 0, 1))],
-    [("", (1, 1)), ("LL", (1, 0, 0, 1)), ("RR", (1, 0, 0, 1))], [("", (1, 1)), ("R", (1, 0, 0, 1)), ("L", (1, 0, 0, 1))],
+    [("L", (1, 0, 0, 1))], [("L", (1, 0, 0, 1)), ("R", (1, 0, 0, 1))], [("", (1, 1))],
+    [("R", (1, 1)), ("RL", (1, 0, 0, 1))],
+    [("", (1, 1)), ("LL", (1, 0, 0, 1)), ("RR", (1, 0, 0, 1))],
+    [("", (1, 1)), ("R", (1, 0, 0, 1)), ("L", (1, 0, 0, 1))],
     [("", (1, 1)), ("L", (1, 0, 0, 1)), ("RL", (1, 0, 0, 1)), ("RR", (1, 0, 0, 1))],
-    [("", (1, 1)), ("L", (1, 0, 0, 1)), ("R", (1, 2)), ("RL", (1, 0, 0, 1)), ("RRL", (1, 0, 0, 1)), ("RRR", (1, 0, 0, 1))]]
+    [("", (1, 1)), ("L", (1, 0, 0, 1)), ("R", (1, 2)), ("RL", (1, 0, 0, 1)), ("RRL", (1, 0, 0, 1)),
+     ("RRR", (1, 0, 0, 1))]]
 FEW_BOOKS = [[], FOLD[:2], [FOLD[0], FOLD[2], FOLD[1]], with_entry(FOLD, 1, ("L", (2, 0, 0, 2))),
              with_entry(DEEP, 2, ("R", (2, 2))), FOLD + [("RL", (1, 1))]]
 BOOK = (BOOKS, WRONG_BOOKS, InvalidBook)
@@ -123,7 +132,8 @@ class Wrong(Wrongs, unittest.TestCase):
 
     def test_the_list_of_an_error_is_new_and_its_own(self):
         for book in FEW_BOOKS:
-            for function, passed in [(machine_of_book, ()), (least_book, ()), (sent_by, ((1, 1),)), (book_behind, (SAME,))]:
+            for function, passed in [(machine_of_book, ()), (least_book, ()), (sent_by, ((1, 1),)),
+                                     (book_behind, (SAME,))]:
                 own, held = list(book), []
                 for _ in range(2):
                     with self.assertRaises(InvalidBook) as caught:

@@ -46,7 +46,8 @@ QUESTIONS = [
 ]
 OF_ONE_MACHINE = {
     run: ["RL"], run_course: [("", "RL")], least: [], is_least: [], map_of: [], falls: [], same_written: [],
-    surely: ["L"], wait: [], ahead: [], writes: ["L"], never: [2], number_of_roads: [3, "L"], rest_of_roads: [3, "L", 7],
+    surely: ["L"], wait: [], ahead: [], writes: ["L"], never: [2], number_of_roads: [3, "L"],
+    rest_of_roads: [3, "L", 7],
     number_below: [3, (1, 2)]}
 
 
