@@ -105,7 +105,7 @@ def endless_way(graph):
 
     They are told as a tuple of those ahead and those of the round.
     """
-    ended = {node: True for node in nodes_in_order(backwards(followers_in(graph)))}
+    ended = {last: True for last in nodes_in_order(backwards(followers_in(graph)))}
     if 0 in ended:
         return None
     node = 0

@@ -8,7 +8,7 @@ from leftroads.texts import show_map
 
 def read_map(text):
     """Return the map with a text."""
-    # The integers stand beside signs that take no other place.
+    # Whether all other signs stand where they should is told by the text that is shown.
     words = text.replace("(", "").replace(")", "").split(" ")
     numbers = [words[at] for at in (0, 3, 5, 8) if at < len(words)]
     if len(numbers) < 4 or not all([is_number(number) for number in numbers]):
